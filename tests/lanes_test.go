@@ -851,47 +851,67 @@ func memoryLanes() []impl.Lanes {
 	return list
 }
 
-func TestLanesStayAsTheyAre(t *testing.T) {
-	for name, call := range laneCalls() {
-		for i, l := range memoryLanes() {
-			memory := piecesOfLanes(l)
+// checkUnchanged expects that no call changes an argument, or returns memory of it.
+func checkUnchanged[T any](t *testing.T, calls map[string]func(T) []memoryPiece, list []T, pieces func(T) []memoryPiece) {
+	t.Helper()
+	for name, call := range calls {
+		for i, argument := range list {
+			memory := pieces(argument)
 			before := textsOfPieces(memory)
-			if _, waits := impl.NextLane(l); !impl.LanesValid(l) || !impl.LanesSame(l, l) || waits == (laneByHand(l) < 0) {
-				t.Fatalf("the lanes %d are not valid", i)
-			}
-			got := call(l)
+			got := call(argument)
 			if !slices.Equal(textsOfPieces(memory), before) {
-				t.Errorf("%s changes the lanes %d to %q", name, i, textsOfPieces(memory))
+				t.Errorf("%s changes the argument %d to %q", name, i, textsOfPieces(memory))
 			}
 			overwritePieces(got)
 			if !slices.Equal(textsOfPieces(memory), before) {
-				t.Errorf("%s shares memory with the lanes %d", name, i)
+				t.Errorf("%s shares memory with the argument %d", name, i)
 			}
 		}
 	}
 }
 
-func TestResultsOfLanesShareNoMemory(t *testing.T) {
-	for name, call := range laneCalls() {
-		for i, l := range memoryLanes() {
-			first, second := call(l), call(l)
+// checkApart expects that neither two results of a call nor two parts of one result share memory.
+func checkApart[T any](t *testing.T, calls map[string]func(T) []memoryPiece, list []T) {
+	t.Helper()
+	for name, call := range calls {
+		for i, argument := range list {
+			first, second := call(argument), call(argument)
 			want := textsOfPieces(second)
 			overwritePieces(first)
 			if !slices.Equal(textsOfPieces(second), want) {
-				t.Errorf("%s of the lanes %d: two results share memory", name, i)
+				t.Errorf("%s of the argument %d: two results share memory", name, i)
 			}
 			for place := range want {
-				got := call(l)
+				got := call(argument)
 				texts := textsOfPieces(got)
 				got[place].write()
 				for other, piece := range got {
 					if other != place && piece.text() != texts[other] {
-						t.Errorf("%s of the lanes %d: %s and %s share memory", name, i, got[place].name, piece.name)
+						t.Errorf("%s of the argument %d: %s and %s share memory", name, i, got[place].name, piece.name)
 					}
 				}
 			}
 		}
 	}
+}
+
+func TestLanesStayAsTheyAre(t *testing.T) {
+	list := memoryLanes()
+	for i, l := range list {
+		memory := piecesOfLanes(l)
+		before := textsOfPieces(memory)
+		if _, waits := impl.NextLane(l); !impl.LanesValid(l) || !impl.LanesSame(l, l) || waits == (laneByHand(l) < 0) {
+			t.Fatalf("the lanes %d are not valid", i)
+		}
+		if !slices.Equal(textsOfPieces(memory), before) {
+			t.Errorf("looking at the lanes %d changes them to %q", i, textsOfPieces(memory))
+		}
+	}
+	checkUnchanged(t, laneCalls(), list, piecesOfLanes)
+}
+
+func TestResultsOfLanesShareNoMemory(t *testing.T) {
+	checkApart(t, laneCalls(), memoryLanes())
 }
 
 // refilled returns lanes in which each one of those that are filled has packets of all peers.

@@ -1158,35 +1158,51 @@ type ledger struct {
 	gone   []impl.Packet
 }
 
-// check expects that what was let in is paid for, and that memory is what waits.
-func (d ledger) check(t *testing.T, g impl.Guard) {
+// sizesByPeer adds the sizes of packets, by peer.
+func sizesByPeer(list []impl.Packet) []int {
+	bytes := usedByAll(0)
+	for _, p := range list {
+		bytes[p.Peer] += p.Size
+	}
+	return bytes
+}
+
+// checkPaid expects that what was let in since the start is paid for.
+func (d ledger) checkPaid(t *testing.T, g impl.Guard) {
 	t.Helper()
 	ticks := g.Time - d.start.Time
 	if sum := totalOf(d.joined); sum > d.start.All.Level+ticks*d.start.All.Rate {
 		t.Fatalf("%d bytes are let in within %d ticks", sum, ticks)
 	}
-	for peer := range 8 {
-		in, out := 0, 0
-		for _, p := range d.joined {
-			if p.Peer == peer {
-				in += p.Size
-			}
-		}
-		for _, p := range d.gone {
-			if p.Peer == peer {
-				out += p.Size
-			}
-		}
+	for peer, in := range sizesByPeer(d.joined) {
 		if in > d.start.Each[peer].Level+ticks*d.start.Each[peer].Rate {
 			t.Fatalf("the peer %d gets %d bytes in within %d ticks", peer, in, ticks)
 		}
-		if g.Memory.Used[peer] != in-out || in-out > g.Memory.Each {
-			t.Fatalf("the peer %d uses %d bytes, and %d of %d left", peer, g.Memory.Used[peer], out, in)
+	}
+}
+
+// checkWaiting expects that memory is what waits, which came since the start, and has not left.
+func (d ledger) checkWaiting(t *testing.T, g impl.Guard) {
+	t.Helper()
+	out := sizesByPeer(d.gone)
+	for peer, in := range sizesByPeer(d.joined) {
+		if g.Memory.Used[peer] != in-out[peer] || in-out[peer] > g.Memory.Each {
+			t.Fatalf("the peer %d uses %d bytes, and %d of %d left", peer, g.Memory.Used[peer], out[peer], in)
 		}
 	}
 	checkBytes(t, g, g.Memory.Used...)
 	if waits := totalUsed(countsByHand(g.Lanes)); waits != len(d.joined)-len(d.gone) || totalUsed(g.Memory.Used) > g.Memory.Limit {
 		t.Fatalf("%d packets wait, of %d that came and %d that left", waits, len(d.joined), len(d.gone))
+	}
+}
+
+// checkAllLeft expects that each packet that came has left once, and that there were some.
+func (d ledger) checkAllLeft(t *testing.T) {
+	t.Helper()
+	gone := slices.Clone(d.gone)
+	slices.SortFunc(gone, func(a impl.Packet, b impl.Packet) int { return a.Id - b.Id })
+	if !slices.Equal(gone, d.joined) || len(d.joined) < 20 {
+		t.Errorf("%v came, and %v left", d.joined, gone)
 	}
 }
 
@@ -1234,16 +1250,14 @@ func TestWhatIsLetInIsPaidFor(t *testing.T) {
 				kind = 2
 			}
 			g = guardStep(t, g, &d, kind, n/256, 4*step)
-			d.check(t, g)
+			d.checkPaid(t, g)
+			d.checkWaiting(t, g)
 		}
 		g, gone := checkServed(t, g, g.Time, mostInt)
 		d.gone = append(d.gone, gone...)
-		d.check(t, g)
-		byId := func(a impl.Packet, b impl.Packet) int { return a.Id - b.Id }
-		slices.SortFunc(d.gone, byId)
-		if !slices.Equal(d.gone, d.joined) || len(d.joined) < 20 {
-			t.Errorf("row %d: %v came, and %v left", seed, d.joined, d.gone)
-		}
+		d.checkPaid(t, g)
+		d.checkWaiting(t, g)
+		d.checkAllLeft(t)
 	}
 }
 
